@@ -1,0 +1,1 @@
+"""Trees of values, asked and changed; the calls are in valuetwigs.twigs."""
