@@ -148,9 +148,88 @@ class Language(unittest.TestCase):
                 self.assertTrue(node.vararg is None and node.kwarg is None and node.kwonlyargs == [], path)
 
     def test_a_call_stands_in_its_own_file_alone(self):
-        places = [path.name for path in files() for row in ast.parse(path.read_text()).body
-                  if isinstance(row, (ast.FunctionDef, ast.ClassDef)) and row.name == "form"]
-        self.assertEqual(places, ["twigs.py"])
+        for call in ("form", "run", "differ"):
+            places = [path.name for path in files() for row in ast.parse(path.read_text()).body
+                      if isinstance(row, (ast.FunctionDef, ast.ClassDef)) and row.name == call]
+            self.assertEqual(places, ["twigs.py"])
+
+    def test_no_name_is_a_method_here_and_a_value_there(self):
+        methods = {node.name for path in files() for of_class in nodes(path, ast.ClassDef) for node in of_class.body
+                   if isinstance(node, ast.FunctionDef)}
+        values = {node.attr for path in files() for node in nodes(path, ast.Attribute) if isinstance(node.ctx, ast.Store)}
+        self.assertEqual(methods & values, set())
+        python_own = {name for kind in (str, int, list, dict, set, bytes, tuple) for name in dir(kind)}
+        self.assertEqual((methods | values) & python_own, {"__init__"})
+
+    def test_no_parameter_or_local_is_called_like_a_class_or_an_import(self):
+        for path in files():
+            taken = {node.name for node in nodes(path, ast.ClassDef)}
+            taken |= {alias.name for node in nodes(path, ast.ImportFrom) for alias in node.names}
+            locals_too = [node.arg for node in nodes(path, ast.arg)]
+            locals_too += [node.id for node in nodes(path, ast.Name) if isinstance(node.ctx, ast.Store)]
+            self.assertEqual(taken & set(locals_too), set(), path)
+
+    def test_values_are_given_through_a_local_name(self):
+        for path in files():
+            for node in nodes(path, ast.Attribute):
+                if isinstance(node.ctx, ast.Store):
+                    self.assertIsInstance(node.value, ast.Name, (path, node.lineno))
+                    self.assertFalse(node.value.id[0].isupper(), (path, node.lineno))
+
+    def test_one_plain_target_in_an_assignment(self):
+        for path in files():
+            for node in nodes(path, ast.Assign):
+                self.assertNotIsInstance(node.targets[0], (ast.Tuple, ast.List), (path, node.lineno))
+
+    def test_is_stands_beside_none_and_truths_alone(self):
+        for path in files():
+            for node in nodes(path, ast.Compare):
+                if any(isinstance(sign, (ast.Is, ast.IsNot)) for sign in node.ops):
+                    self.assertTrue(all(isinstance(side, ast.Constant) and side.value in (None, True, False)
+                                        for side in node.comparators), (path, node.lineno))
+
+    def test_texts_have_no_percent(self):
+        for path in files():
+            for node in nodes(path, ast.Constant):
+                self.assertFalse(isinstance(node.value, str) and "%" in node.value, (path, node.lineno))
+
+    def test_what_stands_at_a_top_is_read_alone(self):
+        tops = {row.targets[0].id for path in files() for row in ast.parse(path.read_text()).body
+                if isinstance(row, ast.Assign) and isinstance(row.value, (ast.List, ast.Tuple, ast.Dict))}
+        for path in files():
+            parents = {child: node for node in ast.walk(ast.parse(path.read_text())) for child in ast.iter_child_nodes(node)}
+            for child, parent in parents.items():
+                if isinstance(child, ast.Name) and child.id in tops and isinstance(child.ctx, ast.Load):
+                    self.assertTrue(self.is_reading(child, parent), (path, child.lineno, child.id))
+
+    def is_reading(self, child, parent):
+        if isinstance(parent, ast.Subscript):
+            return parent.value is child and isinstance(parent.ctx, ast.Load)
+        if isinstance(parent, ast.Compare):
+            return child in parent.comparators
+        if isinstance(parent, (ast.For, ast.comprehension)):
+            return parent.iter is child
+        if isinstance(parent, ast.Attribute):
+            return parent.attr in ("index", "get", "count")
+        return isinstance(parent, ast.Call) and parent.func.id in ("len", "enumerate")
+
+    def test_methods_are_called_where_they_stand(self):
+        methods = {node.name for path in files() for of_class in nodes(path, ast.ClassDef) for node in of_class.body
+                   if isinstance(node, ast.FunctionDef)}
+        for path in files():
+            tree = ast.parse(path.read_text())
+            called = {id(node.func) for node in ast.walk(tree) if isinstance(node, ast.Call)}
+            for node in ast.walk(tree):
+                if isinstance(node, ast.Attribute) and node.attr in methods | set(METHODS) - {"index"}:
+                    self.assertIn(id(node), called, (path, node.lineno, node.attr))
+
+    def test_walks_are_not_kept(self):
+        for path in files():
+            tree = ast.parse(path.read_text())
+            for node in ast.walk(tree):
+                if isinstance(node, (ast.Assign, ast.Return)) and isinstance(node.value, ast.Call):
+                    name = node.value.func.id if isinstance(node.value.func, ast.Name) else node.value.func.attr
+                    self.assertNotIn(name, ("zip", "enumerate", "reversed", "range", "items", "keys", "values", "set"), path)
 
 
 if __name__ == "__main__":

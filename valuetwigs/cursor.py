@@ -1,11 +1,10 @@
 """A place in a row of bytes, and what is read there: blanks, words, numbers, texts."""
 
-from valuetwigs.kinds import bytes_of
+from valuetwigs.kinds import TOO_LARGE_AMOUNT, bytes_of
 from valuetwigs.signs import BACKSLASH, BLANKS, DIGIT_NINE, DIGIT_ZERO, MINUS, QUOTE
 from valuetwigs.signs import HIGHEST_IN_TEXTS, LOWEST_IN_TEXTS
 
 MOST_DIGITS = 16
-TOO_LARGE = 9007199254740992
 
 
 class NoValue(Exception):
@@ -25,6 +24,9 @@ class Cursor:
     # for the end first.
     def sign(self):
         return -1 if self.at_end() else self.row[self.place]
+
+    def sign_behind(self):
+        return -1 if self.place + 1 >= len(self.row) else self.row[self.place + 1]
 
     def step(self):
         self.place += 1
@@ -63,7 +65,7 @@ def read_amount(cursor):
     amount = 0
     for digit in digits:
         amount = amount * 10 + digit
-    if amount >= TOO_LARGE:
+    if amount >= TOO_LARGE_AMOUNT:
         raise NoValue()
     return amount
 

@@ -5,11 +5,11 @@ that a loop goes through them however deep they are nested.
 """
 
 from valuetwigs.cursor import Cursor, NoValue, read_number, read_text, skip_blanks, skip_word
-from valuetwigs.kinds import LIST, NUMBER, RECORD, TEXT, WORDS
+from valuetwigs.kinds import LIST, MOST_DEPTH, RECORD, WORDS
+from valuetwigs.kinds import make_list, make_number, make_record, make_text, make_word
 from valuetwigs.signs import COLON, COMMA, LIST_END, LIST_START, QUOTE, RECORD_END, RECORD_START
 
 MOST_BYTES = 4096
-MOST_DEPTH = 40
 
 # What has to stand next, if it isn't the end of the innermost list or record.
 WANTS_VALUE = 0
@@ -47,8 +47,8 @@ class Opened:
 
     def as_value(self):
         if self.kind == LIST:
-            return (LIST, tuple(self.listed))
-        return (RECORD, tuple([(name, self.fields[name]) for name in sorted(self.fields)]))
+            return make_list(self.listed)
+        return make_record([(name, self.fields[name]) for name in sorted(self.fields)])
 
 
 class Reading:
@@ -87,12 +87,12 @@ class Reading:
 
 def read_single(cursor):
     if cursor.sign() == QUOTE:
-        return (TEXT, read_text(cursor))
+        return make_text(read_text(cursor))
     for kind, word in enumerate(WORDS):
         if cursor.sign() == ord(word[0]):
             skip_word(cursor, word)
-            return (kind, None)
-    return (NUMBER, read_number(cursor))
+            return make_word(kind)
+    return make_number(read_number(cursor))
 
 
 def read_into_value(cursor, reading):

@@ -1,16 +1,25 @@
-"""The bytes that values are written with."""
+"""The bytes that values and programs are written with."""
 
 BLANKS = (32, 9, 10, 13)
 
+ROW_END = 10
 QUOTE = 34
+DOLLAR = 36
+PERCENT = 37
 COMMA = 44
 MINUS = 45
+DOT = 46
 DIGIT_ZERO = 48
 DIGIT_NINE = 57
 COLON = 58
+LARGE_A = 65
+LARGE_Z = 90
 LIST_START = 91
 BACKSLASH = 92
 LIST_END = 93
+UNDERSCORE = 95
+SMALL_A = 97
+SMALL_Z = 122
 RECORD_START = 123
 RECORD_END = 125
 

@@ -1,13 +1,57 @@
 """The calls. Each takes and answers lists of whole numbers, and keeps nothing."""
 
 from valuetwigs.cursor import NoValue
+from valuetwigs.differing import changes_between
+from valuetwigs.programs import read_program
 from valuetwigs.reading import read_value
-from valuetwigs.writing import written
+from valuetwigs.running import run_program
+from valuetwigs.tokens import NoProgram
+from valuetwigs.writing import written, written_lines
+
+NO_PROGRAM = -1
+NO_FIRST_VALUE = -2
+NO_SECOND_VALUE = -3
+TOO_MANY_TURNS = -22
+TOO_LONG = -28
+
+MOST_TURNS = 10000
+MOST_BYTES_ANSWERED = 65536
+
+
+def answered(number, row):
+    return [TOO_LONG] if len(row) > MOST_BYTES_ANSWERED else [number] + row
 
 
 def form(v):
     try:
         value = read_value(v)
     except NoValue:
-        return [-2]
+        return [NO_FIRST_VALUE]
     return [0] + written(value)
+
+
+def run(turns, p, v):
+    try:
+        program = read_program(p)
+    except NoProgram:
+        return [NO_PROGRAM]
+    try:
+        value = read_value(v)
+    except NoValue:
+        return [NO_FIRST_VALUE]
+    if turns > MOST_TURNS:
+        return [TOO_MANY_TURNS]
+    machine = run_program(turns, program, value)
+    return answered(machine.stop, written_lines([found.value for found in machine.given], MOST_BYTES_ANSWERED))
+
+
+def differ(a, b):
+    try:
+        old = read_value(a)
+    except NoValue:
+        return [NO_FIRST_VALUE]
+    try:
+        new = read_value(b)
+    except NoValue:
+        return [NO_SECOND_VALUE]
+    return answered(0, written(changes_between(old, new)))

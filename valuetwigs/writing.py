@@ -5,7 +5,7 @@ however deep the value is nested.
 """
 
 from valuetwigs.kinds import LIST, NUMBER, RECORD, TEXT, WORDS, bytes_of
-from valuetwigs.signs import BACKSLASH, COLON, COMMA, LIST_END, LIST_START, QUOTE, RECORD_END, RECORD_START
+from valuetwigs.signs import BACKSLASH, COLON, COMMA, LIST_END, LIST_START, QUOTE, RECORD_END, RECORD_START, ROW_END
 
 # Stands in a kind's place, for bytes that are written as they are.
 AS_IT_IS = 7
@@ -64,4 +64,16 @@ def written(value):
             waiting.extend(list(reversed(pieces_of_record(piece[1]))))
         else:
             row.extend(written_single(piece[0], piece[1]))
+    return row
+
+
+# Each value in its form, with a row's end behind it. Once there are more bytes
+# than are wanted the rest isn't written.
+def written_lines(values, most):
+    row = []
+    for value in values:
+        row.extend(written(value))
+        row.append(ROW_END)
+        if len(row) > most:
+            break
     return row
