@@ -52,6 +52,21 @@ class Tokens(RunCase):
         self.refuses("a", "_", "nul", "nulll", "True", "Empty", "lengths", "$", "$1", "$ x", "let $ x=1 in 1", ".\xe9",
                      ".a\xe9", "let x=1 in 1", "@", "#", "&", "^", "~", "`", "!", "\\", "'", "1!2", "..", ". a", ".$a")
 
+    def test_each_byte_in_names(self):
+        for byte in range(256):
+            sign = chr(byte)
+            is_letter = sign == "_" or (byte < 128 and sign.isalpha())
+            is_digit = byte < 128 and sign.isdigit()
+            if is_letter:
+                self.gives("." + sign, '{"%s":5}' % sign, "5")
+            if is_letter or is_digit:
+                self.gives(".x" + sign, '{"x%s":5}' % sign, "5")
+                self.gives("let $x%s=5 in $x%s" % (sign, sign), "null", "5")
+            elif sign not in " \t\n\r?":
+                self.refuses(".x" + sign)
+            self.assertEqual(answer("let $%s=5 in $%s" % (sign, sign)) != [-1], is_letter, byte)
+            self.assertEqual(answer("{%s:5}" % sign) != [-1], is_letter, byte)
+
     def test_dots(self):
         self.gives(".", "5", "5")
         self.gives("..a", '{"a":1}', "1")
@@ -141,6 +156,13 @@ class Grammar(RunCase):
         self.gives("2+3*4", "null", "14")
         self.gives("2*3+4", "null", "10")
         self.gives("20-12/4-1", "null", "16")
+        for one in "*/%":
+            for other in "*/%":
+                self.same("17%s5%s3" % (one, other), "(17%s5)%s3" % (one, other))
+                self.same("17+29%s5%s3-1" % (one, other), "(17+((29%s5)%s3))-1" % (one, other))
+        for one in "+-":
+            for other in "+-":
+                self.same("17%s5%s3" % (one, other), "(17%s5)%s3" % (one, other))
         self.same("1-2+3-4", "((1-2)+3)-4")
         self.same("1*2/3%4", "((1*2)/3)%4")
         self.refuses("+", "1+", "*1", "1*", "/1", "1/", "%1", "1%", "1*+2", "-", "1-", "--")

@@ -304,6 +304,16 @@ class Sizes(RunCase):
         self.stops(2, "[" * 40 + "[]" + "]" * 40)
         self.gives("[" * 40 + "0" + "]" * 40, "null", "[" * 40 + "0" + "]" * 40)
 
+    def test_depth_of_what_lies_deepest(self):
+        for leaf, own in (("null", 0), ("true", 0), ("false", 0), ("7", 0), ('"a"', 0), ("[]", 1), ("{}", 1), ("[{}]", 2),
+                          ('{"a":[]}', 2), ('[1,{"a":"b"}]', 2), ('[[],{"a":[null]},0]', 3)):
+            for front, behind in (("[", "]"), ('{"a":', "}")):
+                deepest = front * (40 - own) + leaf + behind * (40 - own)
+                inner = front * (39 - own) + leaf + behind * (39 - own)
+                made = "[.]" if front == "[" else "{a:.}"
+                self.gives(made, inner, deepest)
+                self.stops(2, made, deepest)
+
     def test_what_is_not_made_may_be_as_it_is(self):
         self.gives(".[0]", "[" + '"' + "a" * 4090 + '"' + "]", '"' + "a" * 4090 + '"')
         self.gives("sort|length", "[" + "1," * 2046 + "1]", "2047")
