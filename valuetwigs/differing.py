@@ -4,8 +4,9 @@ What is still to be compared waits in a row, so that a loop goes through it
 however deep the values are nested.
 """
 
+from valuetwigs.changes import Change, change_value
 from valuetwigs.entries import field_of
-from valuetwigs.kinds import LIST, RECORD, bytes_of, make_list, make_number, make_record, make_text
+from valuetwigs.kinds import LIST, RECORD, make_list, make_number, make_text
 
 
 # Two values that have to be compared, and the row of keys that leads to both.
@@ -44,19 +45,6 @@ def compared_places(compared):
     return in_both + only_old + only_new
 
 
-def named_field(word, value):
-    return (tuple(bytes_of(word)), value)
-
-
-def change_of(compared):
-    fields = [named_field("at", make_list(compared.row))]
-    if compared.new is not None:
-        fields.append(named_field("is", compared.new))
-    if compared.old is not None:
-        fields.append(named_field("was", compared.old))
-    return make_record(fields)
-
-
 def changes_between(old, new):
     changes = []
     waiting = [Compared((), old, new)]
@@ -69,5 +57,5 @@ def changes_between(old, new):
         elif compared.both_are(LIST):
             waiting.extend(list(reversed(compared_places(compared))))
         else:
-            changes.append(change_of(compared))
+            changes.append(change_value(Change(compared.row, compared.old, compared.new)))
     return make_list(changes)

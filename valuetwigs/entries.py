@@ -32,6 +32,16 @@ def entry_of(holder, key):
     return holder[1][key[1]] if key[1] < len(holder[1]) else None
 
 
+# None if nothing is there.
+def entry_at(whole, row):
+    there = whole
+    for key in row:
+        there = entry_of(there, key)
+        if there is None:
+            return None
+    return there
+
+
 def at_key(holder, key):
     if holder[0] != NULL and not fits_key(holder, key):
         raise WrongKind()

@@ -1,7 +1,10 @@
 """The calls. Each takes and answers lists of whole numbers, and keeps nothing."""
 
+from valuetwigs.applying import CannotApply, applied
+from valuetwigs.changes import NoChanges, changes_in
 from valuetwigs.cursor import NoValue
 from valuetwigs.differing import changes_between
+from valuetwigs.kinds import is_fit
 from valuetwigs.programs import read_program
 from valuetwigs.reading import read_value
 from valuetwigs.running import run_program
@@ -11,15 +14,16 @@ from valuetwigs.writing import written, written_lines
 NO_PROGRAM = -1
 NO_FIRST_VALUE = -2
 NO_SECOND_VALUE = -3
+CANNOT_CHANGE = -16
 TOO_MANY_TURNS = -22
-TOO_LONG = -28
+TOO_LARGE = -28
 
 MOST_TURNS = 10000
 MOST_BYTES_ANSWERED = 65536
 
 
 def answered(number, row):
-    return [TOO_LONG] if len(row) > MOST_BYTES_ANSWERED else [number] + row
+    return [TOO_LARGE] if len(row) > MOST_BYTES_ANSWERED else [number] + row
 
 
 def form(v):
@@ -55,3 +59,19 @@ def differ(a, b):
     except NoValue:
         return [NO_SECOND_VALUE]
     return answered(0, written(changes_between(old, new)))
+
+
+def apply(v, c):
+    try:
+        value = read_value(v)
+    except NoValue:
+        return [NO_FIRST_VALUE]
+    try:
+        changes = changes_in(read_value(c))
+    except (NoValue, NoChanges):
+        return [NO_SECOND_VALUE]
+    try:
+        changed = applied(value, changes)
+    except CannotApply:
+        return [CANNOT_CHANGE]
+    return [0] + written(changed) if is_fit(changed) else [TOO_LARGE]
