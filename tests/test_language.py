@@ -148,7 +148,7 @@ class Language(unittest.TestCase):
                 self.assertTrue(node.vararg is None and node.kwarg is None and node.kwonlyargs == [], path)
 
     def test_a_call_stands_in_its_own_file_alone(self):
-        for call in ("form", "run", "differ", "apply"):
+        for call in ("form", "run", "differ", "apply", "back"):
             places = [path.name for path in files() for row in ast.parse(path.read_text()).body
                       if isinstance(row, (ast.FunctionDef, ast.ClassDef)) and row.name == call]
             self.assertEqual(places, ["twigs.py"])

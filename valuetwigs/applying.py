@@ -1,5 +1,6 @@
-"""Applies changes to a value, one after another."""
+"""Applies changes to a value, one after another, and takes them back."""
 
+from valuetwigs.changes import turned_round
 from valuetwigs.entries import entry_at, put_at, without_row
 from valuetwigs.stops import CannotPut
 
@@ -44,3 +45,7 @@ def applied(whole, changes):
     for change in changes:
         whole = changed_by(whole, change)
     return whole
+
+
+def taken_back(whole, changes):
+    return applied(whole, [turned_round(change) for change in reversed(changes)])

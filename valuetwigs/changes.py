@@ -18,6 +18,10 @@ class Change:
         self.new = new
 
 
+def turned_round(change):
+    return Change(change.row, change.new, change.old)
+
+
 def name_of(word):
     return tuple(bytes_of(word))
 

@@ -1,6 +1,6 @@
 """The calls. Each takes and answers lists of whole numbers, and keeps nothing."""
 
-from valuetwigs.applying import CannotApply, applied
+from valuetwigs.applying import CannotApply, applied, taken_back
 from valuetwigs.changes import NoChanges, changes_in
 from valuetwigs.cursor import NoValue
 from valuetwigs.differing import changes_between
@@ -61,7 +61,8 @@ def differ(a, b):
     return answered(0, written(changes_between(old, new)))
 
 
-def apply(v, c):
+# The work makes one value of a value and a list of changes.
+def changed_answer(v, c, work):
     try:
         value = read_value(v)
     except NoValue:
@@ -71,7 +72,15 @@ def apply(v, c):
     except (NoValue, NoChanges):
         return [NO_SECOND_VALUE]
     try:
-        changed = applied(value, changes)
+        changed = work(value, changes)
     except CannotApply:
         return [CANNOT_CHANGE]
     return [0] + written(changed) if is_fit(changed) else [TOO_LARGE]
+
+
+def apply(v, c):
+    return changed_answer(v, c, applied)
+
+
+def back(v, c):
+    return changed_answer(v, c, taken_back)
